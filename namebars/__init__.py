@@ -1,0 +1,1 @@
+"""Names alike, and which of them is barred."""
