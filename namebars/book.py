@@ -10,6 +10,9 @@ class Name:
         self.day = day
         self.page = page
 
+    def is_out(self, d):
+        return self.day <= d
+
 
 class GenusName(Name):
 
@@ -72,6 +75,9 @@ class Book:
     def find_name(self, key):
         """The name of either kind that has this key, or None."""
         return self.genera.get(key, self.species.get(key))
+
+    def all_names(self):
+        return list(self.genera.values()) + list(self.species.values())
 
     def has_act(self, key):
         return any([act.key == key for act in self.acts])

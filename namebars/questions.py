@@ -1,37 +1,68 @@
-"""The calls that ask and change nothing."""
+"""The calls whatStatus to homonyms, which ask about one name that is out at a day."""
 
-from namebars.refusals import NO_REFUSAL
+from namebars.bars import are_alike
+from namebars.bars import bar_of
+from namebars.bars import is_usable
+from namebars.bars import namesakes_of
 from namebars.refusals import NOT_THERE
-from namebars.refusals import OUT_OF_RANGE
-from namebars.refusals import is_day
-from namebars.standing import is_out
-from namebars.standing import precedence_of
-from namebars.standing import status_of
+
+BLANK = 32
 
 
-def refuse_name_at(book, d, key):
-    """Looks at a day and at a name, of either kind, that must be out then."""
-    if not is_day(d):
-        return OUT_OF_RANGE
-    name = book.find_name(key)
-    if name is None or not is_out(name, d):
-        return NOT_THERE
-    return NO_REFUSAL
+def ask_status(timeline, d, name):
+    return [timeline.at_day(d).status(name)]
 
 
-def ask_status(book, call):
-    d = call.numbers[0]
-    a = call.numbers[1]
-    refusal = refuse_name_at(book, d, a)
-    if refusal != NO_REFUSAL:
-        return [refusal]
-    return [status_of(book, d, book.find_name(a))]
+def ask_precedence(timeline, d, name):
+    return [0] + timeline.at_day(d).precedence(name)
 
 
-def ask_precedence(book, call):
-    d = call.numbers[0]
-    a = call.numbers[1]
-    refusal = refuse_name_at(book, d, a)
-    if refusal != NO_REFUSAL:
-        return [refusal]
-    return [0] + precedence_of(book, d, book.find_name(a))
+def ask_usable(timeline, d, name):
+    return [1 if is_usable(timeline, d, name) else 0]
+
+
+def ask_bar(timeline, d, name):
+    return [0] + list(bar_of(timeline, d, name))
+
+
+def ask_home(timeline, d, name):
+    view = timeline.at_day(d)
+    if name.key in view.book.genera:
+        return [0, name.key, view.head(name.key)]
+    return [0, view.placed_in(name), view.home(name)]
+
+
+def ask_text(timeline, d, name):
+    view = timeline.at_day(d)
+    if name.key in view.book.genera:
+        return [0] + name.letters
+    home = view.book.genera[view.home(name)]
+    return [0] + home.letters + [BLANK] + name.forms[home.gender]
+
+
+def keys_in_order(view, names):
+    return [name.key for name in view.names_in_order(names)]
+
+
+def species_at_home(view, home):
+    return [name for name in view.book.species.values() if view.home(name) == home]
+
+
+def ask_group(timeline, d, name):
+    view = timeline.at_day(d)
+    if name.key not in view.book.genera:
+        return [NOT_THERE]
+    return [0] + keys_in_order(view, species_at_home(view, view.head(name.key)))
+
+
+def species_homonyms(view, name):
+    home = view.home(name)
+    gender = view.book.genera[home].gender
+    return [other for other in species_at_home(view, home) if are_alike(other, name, gender)]
+
+
+def ask_homonyms(timeline, d, name):
+    view = timeline.at_day(d)
+    if name.key in view.book.genera:
+        return [0] + keys_in_order(view, namesakes_of(view, name))
+    return [0] + keys_in_order(view, species_homonyms(view, name))

@@ -10,15 +10,26 @@ LOW_PAGE = 1
 HIGH_PAGE = 1000000
 FAR = 1000000000000
 
+MASCULINE = 0
+FEMININE = 1
+NEUTER = 2
+
+# A work for each tenth day: work 3 is of day 30.
+TENTH_DAYS = [[0, key, 10 * key] for key in range(1, 10)]
+
 WRONG_KEYS = (0, HIGH_KEY + 1, -1, -FAR, FAR)
 WRONG_DAYS = (-1, HIGH_DAY + 1, -FAR, FAR)
 WRONG_PAGES = (0, HIGH_PAGE + 1, -1, -FAR, FAR)
 
 
-def row(text):
-    """A text or a list of bytes as a row, with its length ahead."""
-    signs = [ord(sign) for sign in text] if isinstance(text, str) else list(text)
-    return [len(signs)] + signs
+def signs(told):
+    """The bytes of a text; a list stays as it is."""
+    return [ord(sign) for sign in told] if isinstance(told, str) else list(told)
+
+
+def row(told):
+    """A text or a list of numbers as a row, with its length ahead."""
+    return [len(told)] + signs(told)
 
 
 def work(key, day):
@@ -69,6 +80,54 @@ def precedence(d, a):
     return [11, d, a]
 
 
+def usable(d, a):
+    return [12, d, a]
+
+
+def bar(d, a):
+    return [13, d, a]
+
+
+def home(d, a):
+    return [14, d, a]
+
+
+def text(d, a):
+    return [15, d, a]
+
+
+def group(d, g):
+    return [16, d, g]
+
+
+def homonyms(d, a):
+    return [17, d, a]
+
+
+def what_if(d, a, g):
+    return [18, d, a, g]
+
+
+def unite(d, a, b):
+    return [19, d, a, b]
+
+
+def barred(d):
+    return [20, d]
+
+
+def first(d, s):
+    return [21, d] + row(s)
+
+
+def history(a):
+    return [22, a]
+
+
+def told():
+    return [23]
+
+
 def joined(calls):
     return [number for call in calls for number in call]
 
@@ -101,3 +160,17 @@ def after(before, *calls):
         if answer != [0]:
             raise AssertionError(f"{call} answered {answer}")
     return given[len(before):]
+
+
+def asked(before, *calls):
+    """As after, but for calls that are answered: without the 0 ahead."""
+    given = after(before, *calls)
+    for call, answer in zip(calls, given):
+        if answer[0] != 0:
+            raise AssertionError(f"{call} answered {answer}")
+    return [answer[1:] for answer in given]
+
+
+def bars_of(before, a, days):
+    """What bars a at each of these days, as pairs."""
+    return [tuple(answer) for answer in asked(before, *[bar(d, a) for d in days])]

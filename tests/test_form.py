@@ -29,6 +29,14 @@ WORDS = re.compile(r"\b(type|typing|typing_extensions|enum|Enum|IntEnum|StrEnum|
 CHANGES = """append clear extend insert pop remove reverse setdefault update""".split()
 
 
+WALKED = """zip enumerate reversed range items keys values""".split()
+WALKERS = """list tuple dict sorted sum any all enumerate zip min max""".split()
+
+
+def name_of_call(node):
+    return node.func.id if isinstance(node.func, ast.Name) else getattr(node.func, "attr", None)
+
+
 def tree_of(path):
     return ast.parse(path.read_text(encoding="ascii"))
 
@@ -121,6 +129,7 @@ class CodeTest(unittest.TestCase):
         for path in FILES:
             tree = tree_of(path)
             called = {id(node.func) for node in ast.walk(tree) if isinstance(node, ast.Call)}
+            called |= {id(node.value) for node in ast.walk(tree) if isinstance(node, ast.keyword) and node.arg == "key"}
             for node in ast.walk(tree):
                 if isinstance(node, ast.Attribute) and id(node) in called:
                     self.assertIn(node.attr, own | set(METHODS), path.name)
@@ -143,6 +152,48 @@ class CodeTest(unittest.TestCase):
         for name, node in nodes_of(ast.Assign):
             self.assertEqual(len(node.targets), 1, name)
             self.assertNotIsInstance(node.targets[0], (ast.Tuple, ast.List), name)
+
+    def test_no_annotations(self):
+        for name, node in nodes_of((ast.arg, ast.FunctionDef)):
+            self.assertIsNone(node.annotation if isinstance(node, ast.arg) else node.returns, name)
+
+    def test_nothing_at_a_top_lies_deeper_than_tuples(self):
+        for path in FILES:
+            for node in tree_of(path).body:
+                if isinstance(node, ast.Assign):
+                    inner = [part for part in ast.walk(node.value) if part is not node.value]
+                    self.assertFalse([part for part in inner if isinstance(part, (ast.List, ast.Dict, ast.Call))])
+
+    def test_what_is_walked_is_walked_on_the_spot(self):
+        for path in FILES:
+            tree = tree_of(path)
+            allowed = {id(node.iter) for node in ast.walk(tree) if isinstance(node, (ast.For, ast.comprehension))}
+            for node in ast.walk(tree):
+                if isinstance(node, ast.Call) and isinstance(node.func, ast.Name) and node.func.id in WALKERS:
+                    allowed |= {id(argument) for argument in node.args[:1]}
+            for node in ast.walk(tree):
+                if isinstance(node, ast.Call) and name_of_call(node) in WALKED:
+                    self.assertIn(id(node), allowed, (path.name, node.lineno))
+
+    def test_sets_stand_within_sorted_or_len_or_beside_in(self):
+        for path in FILES:
+            tree = tree_of(path)
+            allowed = set()
+            for node in ast.walk(tree):
+                if isinstance(node, ast.Call) and name_of_call(node) in ("sorted", "len"):
+                    allowed |= {id(argument) for argument in node.args if not node.keywords}
+                if isinstance(node, ast.Compare):
+                    allowed |= {id(right) for right in node.comparators}
+            for node in ast.walk(tree):
+                if isinstance(node, ast.Call) and name_of_call(node) in ("set", "frozenset"):
+                    self.assertIn(id(node), allowed, (path.name, node.lineno))
+
+    def test_keywords(self):
+        allowed = {"sorted": ("key", "reverse"), "min": ("key", "default"), "max": ("key", "default"),
+                   "sum": ("start",), "enumerate": ("start",), "zip": ("strict",)}
+        for name, node in nodes_of(ast.Call):
+            for keyword in node.keywords:
+                self.assertIn(keyword.arg, allowed.get(name_of_call(node), ()), name)
 
     def test_is_stands_beside_none_true_and_false(self):
         for name, node in nodes_of(ast.Compare):

@@ -1,7 +1,7 @@
 import unittest
 
 from tests.support import HIGH_DAY, HIGH_KEY, HIGH_PAGE, LOW_KEY, LOW_PAGE, WRONG_KEYS, WRONG_PAGES
-from tests.support import after, genus, precedence, run, species, status, what_status, work
+from tests.support import after, genus, precedence, species, status, what_status, work
 
 ONE_WORK = [work(1, 10)]
 
